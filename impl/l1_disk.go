@@ -132,6 +132,19 @@ func countSectors(d Disk) int64 {
 	return int64(len(d.Durable)) / SectorSize
 }
 
+// seenSectors are the sectors of a valid disk as a reader sees them. They are the
+// disk's own memory, for one who reads many of them and keeps none.
+func seenSectors(d Disk) [][]byte {
+	seen := make([][]byte, countSectors(d))
+	for i := range seen {
+		seen[i] = d.Durable[i*SectorSize : (i+1)*SectorSize]
+	}
+	for _, w := range d.Pending {
+		seen[w.Sector] = w.Data
+	}
+	return seen
+}
+
 // cloneDisk copies any disk, of whatever lengths; a platter holds only valid ones.
 func cloneDisk(d Disk) Disk {
 	c := Disk{Durable: bytes.Clone(d.Durable)}
