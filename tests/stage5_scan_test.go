@@ -236,14 +236,6 @@ func TestScanBehindALaterEpoch(t *testing.T) {
 		if got := impl.ScanLog(late.disk, 16, 900, 1); len(got.Frames) != again {
 			t.Error("up to the epoch 1 there are", len(got.Frames), "and not", again)
 		}
-		if again < 7 {
-			// From behind the later one on nothing tells that it is of an earlier epoch.
-			behind := impl.ScanLog(late.disk, 16, late.log.End, 2)
-			rest := impl.ScanLog(w.disk, 16, late.log.End, 2)
-			if within(late.log.End%512, 1, 448) && len(behind.Frames) != 0 || len(rest.Frames) != 7-again {
-				t.Error("behind the later one there are", len(behind.Frames), "and were", len(rest.Frames))
-			}
-		}
 	}
 	// Across sectors what an earlier epoch left does stand on the disk, whole.
 	w := writtenFrom(t, 16, 1, 1024-64)
