@@ -146,7 +146,7 @@ func plainVictim(p impl.Pool) impl.PoolResult {
 		}
 	}
 	if len(free) == 0 {
-		return impl.PoolResult{Code: 2, Pool: p}
+		return impl.PoolResult{Code: 2}
 	}
 	off := slices.IndexFunc(free, func(at int64) bool { return !p.Frames[at].Ref })
 	passed, named := free, free[0]

@@ -50,11 +50,15 @@ func TestPoolVictim(t *testing.T) {
 		{"a dirty frame stays dirty", poolOf(0, lit(dirty(1, 700)), lit(dirty(2, 701))),
 			impl.PoolResult{Frame: 0, Pool: poolOf(1, dirty(1, 700), dirty(2, 701))}},
 		{"all have pins", poolOf(1, pinned(1, 1), pinned(2, 1), pinned(3, mostPins)),
-			impl.PoolResult{Code: 2, Pool: poolOf(1, pinned(1, 1), pinned(2, 1), pinned(3, mostPins))}},
+			impl.PoolResult{Code: 2}},
 		{"all have pins and marks", poolOf(2, lit(pinned(1, 1)), pinned(2, 1), lit(pinned(3, 2))),
-			impl.PoolResult{Code: 2, Pool: poolOf(2, lit(pinned(1, 1)), pinned(2, 1), lit(pinned(3, 2)))}},
+			impl.PoolResult{Code: 2}},
 		{"the only frame has pins", poolOf(0, lit(pinned(1, 1))),
-			impl.PoolResult{Code: 2, Pool: poolOf(0, lit(pinned(1, 1)))}},
+			impl.PoolResult{Code: 2}},
+		{"the only frame has a pin, its mark off", poolOf(0, pinned(0, 1)),
+			impl.PoolResult{Code: 2}},
+		{"all have pins, one is dirty", poolOf(1, lit(pinned(1, 1)), impl.Frame{Page: 2, Bytes: poolBytes(2), Pins: 1, Dirty: true, RecLSN: 700}),
+			impl.PoolResult{Code: 2}},
 	} {
 		if got := impl.PoolVictim(c.pool); !sameResult(got, c.want) {
 			t.Errorf("%s: %+v", c.name, shortResult(got))
@@ -96,6 +100,35 @@ func TestVictimsOfAllSmallPools(t *testing.T) {
 				}
 				if (got.Code == 0) != (free > 0) || got.Code == 0 && p.Frames[got.Frame].Pins != 0 {
 					t.Fatalf("%d frames without pins: %+v", free, shortResult(got))
+				}
+			}
+		}
+	}
+}
+
+// TestNoVictimAndNoPool: beside a code all else is zero, so where all frames
+// have pins neither marks nor the hand nor a frame are told.
+func TestNoVictimAndNoPool(t *testing.T) {
+	for n := 1; n <= mostFrames; n++ {
+		for _, marks := range []int{0, 1, 1 << (n - 1), 0x5555, 0xaaaa, 0xffff} {
+			for hand := range int64(n) {
+				p := impl.Pool{Hand: hand}
+				for i := range n {
+					f := pinned(int64(15-i), []int64{1, 2, mostPins}[i%3])
+					f.Ref = marks>>i&1 == 1
+					if f.Dirty = i%4 == 1; f.Dirty {
+						f.RecLSN = 600 + int64(i)
+					}
+					p.Frames = append(p.Frames, f)
+				}
+				got := impl.PoolVictim(p)
+				if got.Code != 2 || got.Frame != 0 || len(got.Pool.Frames) != 0 || got.Pool.Hand != 0 {
+					t.Fatalf("%+v: %+v", shortPool(p), shortResult(got))
+				}
+				// One pin less, and there is a victim again.
+				p.Frames[n-1].Pins = 0
+				if got := impl.PoolVictim(p); got.Code != 0 || got.Frame != int64(n-1) || len(got.Pool.Frames) != n {
+					t.Fatalf("%+v: %+v", shortPool(p), shortResult(got))
 				}
 			}
 		}
