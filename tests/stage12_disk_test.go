@@ -456,6 +456,52 @@ func TestALogThatIsTooLong(t *testing.T) {
 	}
 }
 
+// TestALogThatIsTooLongFromTheStart has pages that redo would write back for others:
+// nothing of that is done.
+func TestALogThatIsTooLongFromTheStart(t *testing.T) {
+	g := smallest(4)
+	m := newMadeLog(rand.New(rand.NewSource(5)), 512, 4)
+	ckpt := m.add(beginning())
+	m.add(tablesOf(1, nil))
+	for page := range g.Pages {
+		m.add(imageOf(impl.PageNew(page)))
+	}
+	room := (g.LogSectors - 1) * sectorSize
+	prev := int64(0)
+	for n := int64(0); m.end-512 <= room-33; n++ {
+		length := min(room-33-(m.end-512), 400)
+		prev = m.add(updateBy(1, prev, n%4, 0, impl.PageRecord{Used: true, Data: make([]byte, length)}))
+	}
+	m.add(commitBy(1, prev))
+	if m.end-512 <= room || m.end-512 > room+sectorSize {
+		t.Fatal("the log has", m.end-512, "bytes of", room)
+	}
+	d := m.lay(g, 5, ckpt)
+	if got := impl.ScanLog(d, g.LogSectors, 512, 1); got.End != m.end {
+		t.Fatal("the scan ends at", got.End, "and not at", m.end)
+	}
+	if r := impl.RunEngine(g, d, script(restarts())); !sameAnswer(r.Answers[0], impl.Answer{Code: codeCorrupt, Used: 2}) {
+		t.Error("a log that is too long is answered", r.Answers[0])
+	}
+}
+
+// TestFramesOfALaterEpochAreNotTaken: the master's old epoch is the last one that counts.
+func TestFramesOfALaterEpochAreNotTaken(t *testing.T) {
+	g := smallest(1)
+	insert := updateBy(1, 0, 0, 3, recordOf("x"))
+	for epoch, want := range map[int64]int{1: 1, 2: 0, 3: 0} {
+		d := impl.Format(g)
+		first := framed(584, epoch, insert)
+		layAt(d, g.LogSectors, 584, append(first, framed(584+int64(len(first)), epoch, commitBy(1, 584))...))
+		r := impl.RunEngine(g, d, script(restarts(), crashes(), restarts()))
+		for _, i := range []int{0, 2} {
+			if a := r.Answers[i]; a.Code != 0 || len(a.Records) != want {
+				t.Error("with frames of the epoch", epoch, "a restart is answered", a)
+			}
+		}
+	}
+}
+
 // TestTheBoundOfARestart has logs of the shortest changes, each of another page
 // than the one ahead, with all frames full: whatever is fetched is written back for another.
 func TestTheBoundOfARestart(t *testing.T) {
